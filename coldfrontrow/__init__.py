@@ -1,0 +1,1 @@
+"""Thermal breakthrough in a one-dimensional reservoir, with exact fractions."""

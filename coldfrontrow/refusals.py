@@ -1,0 +1,17 @@
+"""The errors with which a call is refused, one class for each."""
+
+
+class NoReservoir(Exception):
+    """No create has succeeded yet."""
+
+
+class NoSuchCell(Exception):
+    """The cell doesn't exist."""
+
+
+class OutOfRange(Exception):
+    """A parameter is outside its range."""
+
+
+class DenominatorTooLarge(Exception):
+    """A denominator would become too large."""
