@@ -35,3 +35,28 @@ def weighted_mean(weight, first, second):
     """Give back the mean of first, which counts weight times, and second, which counts once."""
     numerator = weight * first[0] * second[1] + second[0] * first[1]
     return in_lowest_terms(numerator, (weight + 1) * first[1] * second[1])
+
+
+def mean(first, second):
+    return weighted_mean(1, first, second)
+
+
+def is_less(first, second):
+    # Denominators are positive, so multiplying them out keeps the order.
+    return first[0] * second[1] < second[0] * first[1]
+
+
+def greatest(fractions):
+    found = fractions[0]
+    for fraction in fractions:
+        if is_less(found, fraction):
+            found = fraction
+    return found
+
+
+def smallest(fractions):
+    found = fractions[0]
+    for fraction in fractions:
+        if is_less(fraction, found):
+            found = fraction
+    return found

@@ -13,5 +13,17 @@ class OutOfRange(Exception):
     """A parameter is outside its range."""
 
 
+class NoSavedProfile(Exception):
+    """No profile is saved."""
+
+
+class DifferentCells(Exception):
+    """The profiles have different cells."""
+
+
+class NoBreakthrough(Exception):
+    """There is no breakthrough within the forecast."""
+
+
 class DenominatorTooLarge(Exception):
     """A denominator would become too large."""

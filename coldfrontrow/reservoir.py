@@ -1,8 +1,9 @@
 """The reservoir: its state, its operations, and their ranges and refusals."""
 
 from coldfrontrow.cells import Profile
-from coldfrontrow.exact import add, whole
-from coldfrontrow.refusals import DenominatorTooLarge, NoSuchCell, OutOfRange
+from coldfrontrow.exact import add, add_times, greatest, is_less, smallest, whole
+from coldfrontrow.refusals import DenominatorTooLarge, DifferentCells, NoBreakthrough
+from coldfrontrow.refusals import NoSavedProfile, NoSuchCell, OutOfRange
 
 MOST_CELLS = 8
 MOST_ROCK_CAPACITY = 20
@@ -45,6 +46,13 @@ class Reservoir:
     def check_cell(self, cell):
         if cell >= self.cell_count():
             raise NoSuchCell()
+
+    def has_saved(self):
+        return self.saved_profile is not None
+
+    def check_saved(self):
+        if not self.has_saved():
+            raise NoSavedProfile()
 
     def set_rock_capacity(self, cell, rock_capacity):
         """Set the rock capacity of a cell; give back the previous one."""
@@ -116,3 +124,46 @@ class Reservoir:
 
     def total_heat(self):
         return self.profile.total_heat()
+
+    def balance(self):
+        """Give back the number of produced parcels, the injected sum and the produced sum."""
+        return (self.produced_count, self.injected_sum, self.produced_sum)
+
+    def hottest(self):
+        return greatest(self.profile.temperatures())
+
+    def coldest(self):
+        return smallest(self.profile.temperatures())
+
+    def breakthrough(self, temperature):
+        """Give back the number of forecast parcels before the first one colder than this."""
+        for place, parcel in enumerate(self.forecast(MOST_FORECAST)):
+            if is_less(parcel, whole(temperature)):
+                return place
+        raise NoBreakthrough()
+
+    def save_profile(self):
+        # A copy, since settings change the profile in place.
+        self.saved_profile = self.profile.twin()
+
+    def compare_with_saved(self):
+        """Tell whether the profile is nowhere colder than the saved one, and the other way round."""
+        self.check_saved()
+        current = self.profile
+        saved = self.saved_profile
+        return (current.nowhere_colder(saved), saved.nowhere_colder(current))
+
+    def average_with_saved(self):
+        self.check_saved()
+        if not self.profile.same_cells(self.saved_profile):
+            raise DifferentCells()
+        halfway = self.profile.mean_with(self.saved_profile)
+        check_denominators(halfway.temperatures())
+        self.profile = halfway
+
+    def reverse(self):
+        self.profile = self.profile.turned_round()
+
+    def excess_heat(self, temperature):
+        """Give back the total heat above that of a reservoir that has this temperature all over."""
+        return add_times(self.total_heat(), -1, self.profile.uniform_heat(temperature))

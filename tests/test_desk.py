@@ -19,8 +19,8 @@ def all_but_create(argument):
 class Answers(unittest.TestCase):
     def test_document_session(self):
         self.assertEqual(
-            desk.answers([0, 2, 5, 9, 0, 8, 3, 10, 2, 2, 50]),
-            [1, 0, 3, 0, 100, 1, 5, 1, 60, 1, 60, 1, 7, 3, 100, 1, 80, 1, 60, 1, 3, 0, 320, 1, 1, -2],
+            desk.answers([0, 2, 5, 9, 0, 8, 3, 14, 90, 10, 2, 2, 50]),
+            [1, 0, 3, 0, 100, 1, 5, 1, 60, 1, 60, 1, 7, 3, 100, 1, 80, 1, 60, 1, 1, 1, 3, 0, 320, 1, 1, -2],
         )
 
     def test_lengths_of_all_answers(self):
@@ -28,17 +28,22 @@ class Answers(unittest.TestCase):
             ("create", 3), ("set_rock_capacity", 0, 4), ("set_temperature", 1, 60),
             ("set_all_temperatures", 90), ("set_injection_temperature", 10), ("advance",),
             ("advance_many", 2), ("equilibrate",), ("forecast", 4), ("get_cell", 2), ("total_heat",),
+            ("balance",), ("hottest",), ("coldest",), ("breakthrough", 80), ("save_profile",),
+            ("compare_with_saved",), ("average_with_saved",), ("reverse",), ("excess_heat", 7), ("summary",),
         ]
-        self.assertEqual([len(answer) for answer in ask(*calls)], [1, 1, 1, 1, 3, 3, 3, 1, 9, 5, 3])
+        lengths = [1, 1, 1, 1, 3, 3, 3, 1, 9, 5, 3, 5, 3, 3, 1, 1, 2, 1, 1, 3, 5]
+        given = ask(*calls)
+        self.assertEqual([len(answer) for answer in given], lengths)
+        self.assertEqual([answer for answer in given if answer[0] < 0], [])
 
     def test_list_is_not_changed(self):
-        calls = [0, 3, 1, 0, 7, 4, 33, 6, 5, 8, 3, 2, 9, 9, 10, 7]
+        calls = [0, 3, 1, 0, 7, 4, 33, 6, 5, 8, 3, 2, 9, 9, 10, 7, 11, 12, 13, 14, 9, 15, 16, 17, 18, 19, 8, 20]
         before = list(calls)
         desk.answers(calls)
         self.assertEqual(calls, before)
 
     def test_same_list_same_answers(self):
-        calls = [5, 0, 3, 1, 0, 7, 4, 33, 6, 5, 8, 3, 10]
+        calls = [5, 0, 3, 1, 0, 7, 4, 33, 6, 5, 8, 3, 10, 16, 15, 5, 17, 18, 16, 17, 11, 20]
         first = desk.answers(calls)
         kept = list(first)
         second = desk.answers(calls)
@@ -47,7 +52,9 @@ class Answers(unittest.TestCase):
         self.assertEqual(second[:2], [1, -11])
 
     def test_plain_numbers_only(self):
-        replies = desk.answers([0, 2, 1, 0, 3, 4, 0, 5, 6, 4, 7, 8, 5, 9, 1, 10, 9, 2, 0, 0])
+        changes = [0, 2, 1, 0, 3, 4, 0, 5, 6, 4, 7, 15, 16, 5, 17, 18]
+        queries = [8, 5, 9, 1, 10, 9, 2, 11, 12, 13, 14, 50, 14, 0, 16, 17, 19, 300, 20]
+        replies = desk.answers(changes + queries + [0, 0])
         self.assertIs(type(replies), list)
         self.assertEqual({type(number) for number in replies}, {int})
 

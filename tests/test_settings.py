@@ -29,10 +29,10 @@ class Create(Unchanged):
     def test_second_create_replaces(self):
         old = [
             ("create", 2), ("set_rock_capacity", 0, 9), ("set_all_temperatures", 21),
-            ("set_injection_temperature", 7), ("advance_many", 3),
+            ("set_injection_temperature", 7), ("advance_many", 3), ("save_profile",), ("advance",),
         ]
         for cell_count in (1, 2, 5):
-            new = [("create", cell_count)] + look(cell_count) + [("get_cell", cell_count)]
+            new = [("create", cell_count)] + look(cell_count) + [("get_cell", cell_count), ("average_with_saved",)]
             new.append(("set_injection_temperature", 50))
             self.assertEqual(ask(*old, *new)[len(old):], ask(*new))
 

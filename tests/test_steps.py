@@ -79,6 +79,69 @@ class Equilibrate(unittest.TestCase):
         self.assertEqual(given[-1], [7, 200, 3, 200, 3])
 
 
+class Breakthrough(Unchanged):
+    def test_place_of_the_first_colder_parcel(self):
+        # The parcels behind one step are 100, 80, 60, 45, 35 and 115/4 degrees warm.
+        calls = [("create", 2), ("advance",)]
+        self.assertEqual(last(*calls, ("forecast", 6)), [6, 100, 1, 80, 1, 60, 1, 45, 1, 35, 1, 115, 4])
+        for temperature, parcels in ((101, 0), (90, 1), (81, 1), (70, 2), (50, 3), (36, 4), (30, 5), (29, 5)):
+            self.assertEqual(last(*calls, ("breakthrough", temperature)), [parcels], temperature)
+
+    def test_just_as_warm_is_not_colder(self):
+        for temperature, parcels in ((100, 1), (80, 2), (60, 3), (45, 4), (35, 5)):
+            given = ask(("create", 2), ("advance",), ("forecast", parcels), ("breakthrough", temperature))
+            self.assertEqual(given[2][-2:], [temperature, 1])
+            self.assertEqual(given[3], [parcels])
+
+    def test_first_parcel_is_colder_already(self):
+        calls = [("create", 3), ("set_temperature", 2, 59), ("set_injection_temperature", 300)]
+        self.assertEqual(last(*calls, ("breakthrough", 60)), [0])
+        self.assertEqual(last(*calls, ("breakthrough", 59)), [-33])
+
+    def test_first_colder_one_among_warmer(self):
+        calls = [("create", 3), ("set_all_temperatures", 300), ("set_temperature", 1, 0)]
+        calls.append(("set_injection_temperature", 300))
+        self.assertEqual(last(*calls, ("forecast", 4)), [4, 300, 1, 150, 1, 150, 1, 375, 2])
+        for temperature, parcels in ((301, 0), (300, 1), (200, 1), (151, 1), (150, -33)):
+            self.assertEqual(last(*calls, ("breakthrough", temperature)), [parcels])
+
+    def test_last_of_twenty(self):
+        # The parcels are 20 + 280 * (20/21)^k degrees: the 19th 136.3 and the 20th 130.8.
+        calls = [("create", 1), ("set_rock_capacity", 0, 20), ("set_all_temperatures", 300)]
+        for temperature, parcels in ((137, 18), (136, 19), (131, 19), (130, -33), (129, -33)):
+            self.assertEqual(last(*calls, ("breakthrough", temperature)), [parcels], temperature)
+
+    def test_none_of_twenty(self):
+        for temperature in (20, 100, 300):
+            calls = [("create", 2), ("set_injection_temperature", temperature), ("set_all_temperatures", temperature)]
+            self.assertEqual(last(*calls, ("breakthrough", temperature)), [-33])
+            self.assertEqual(last(*calls, ("breakthrough", temperature + 1)), [0])
+
+    def test_the_21st_does_not_count(self):
+        # Behind one step the 21st parcel is the 20th, and 126 degrees warm.
+        calls = [("create", 1), ("set_rock_capacity", 0, 20), ("set_all_temperatures", 300)]
+        self.assertEqual(last(*calls, ("breakthrough", 127)), [-33])
+        self.assertEqual(last(*calls, ("advance",), ("breakthrough", 127)), [19])
+
+    def test_any_temperature(self):
+        for cell_count in (1, 8):
+            for temperature in (301, 302, LARGEST):
+                calls = [("create", cell_count), ("set_all_temperatures", 300), ("set_injection_temperature", 300)]
+                self.assertEqual(last(*calls, ("breakthrough", temperature)), [0])
+            calls = [("create", cell_count), ("set_all_temperatures", 0), ("set_injection_temperature", 0)]
+            self.assertEqual(last(*calls, ("breakthrough", 0)), [-33])
+            self.assertEqual(last(*calls, ("breakthrough", 1)), [0])
+
+    def test_takes_the_injection_temperature(self):
+        calls = [("create", 1), ("set_injection_temperature", 90)]
+        self.assertEqual(last(*calls, ("breakthrough", 90)), [-33])
+        self.assertEqual(last(*calls, ("breakthrough", 92)), [3])
+
+    def test_refused_changes_nothing(self):
+        self.check_refused(("breakthrough", 0), -33)
+        self.check_refused(("breakthrough", 20), -33)
+
+
 class Forecast(Unchanged):
     def test_none(self):
         self.assertEqual(last(("create", 2), ("forecast", 0)), [0])
